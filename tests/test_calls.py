@@ -1,9 +1,12 @@
 """Promise 2, and what holds for every line: event, ticks, mark, and the list of calls."""
 
+import ast
 import contextlib
 import io
+import pathlib
 import unittest
 
+import panetriggers
 from panetriggers.stretch import answers
 from tests.helper import MARK, ask, begin, changes, event, taken, taken_back, ticks, told
 
@@ -151,6 +154,15 @@ class Line(unittest.TestCase):
         with contextlib.redirect_stdout(out), contextlib.redirect_stderr(out):
             answers([0, 2, 1, 2, 1, 1, 1, 3, 5, 2, 2, 3, 1, 99, 0])
         self.assertEqual(out.getvalue(), "")
+
+    def test_imports_its_own_modules_alone(self):
+        files = sorted(pathlib.Path(panetriggers.__file__).parent.glob("*.py"))
+        self.assertIn("stretch.py", [file.name for file in files])
+        for file in files:
+            for node in ast.walk(ast.parse(file.read_text())):
+                self.assertNotIsInstance(node, ast.Import, file.name)
+                if isinstance(node, ast.ImportFrom):
+                    self.assertTrue(node.module.startswith("panetriggers."), file.name)
 
     def test_sixty_calls(self):
         line = ask(begin(2, 1, *[4] * 9, 1, 1), *[event(key, 1) for key in range(10)], *[ticks(200)] * 49)
