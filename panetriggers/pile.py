@@ -45,3 +45,8 @@ class Pile:
         if mode == NEW_ONES:
             return [self.key, self.panes, when, self.new_count, self.new_sum]
         return [self.key, self.panes, when, self.all_count, self.all_sum]
+
+    def show(self):
+        """Give back the six numbers that the key is asked for."""
+        is_over = 1 if self.trigger is None else 0
+        return [is_over, self.new_count, self.new_sum, self.all_count, self.all_sum, self.panes]

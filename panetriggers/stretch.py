@@ -1,15 +1,19 @@
 """One stretch of time, and the calls on it."""
 
 from panetriggers.pile import ALL_WITH_TAKING_BACK, NEW_ONES, Pile
-from panetriggers.trigger import AGAIN, EVENT, FIRES, LEFT, MARK, NTH, TICK, hear, read_trigger
+from panetriggers.trigger import AGAIN, EVENT, FIRES, LEFT, MARK, NTH, TICK, hear, look_ahead, read_trigger
 
 BEGIN_CALL = 0
 EVENT_CALL = 1
 TICKS_CALL = 2
+MARK_CALL = 3
+KEY_CALL = 4
+KEYS_CALL = 5
+SOON_CALL = 6
 
 # By the call's number, how many numbers it has, itself among them; a begin's row
 # comes on top.
-SIZES = (4, 3, 2, 1)
+SIZES = (4, 3, 2, 1, 2, 1, 3, 1)
 
 EARLY = 0
 BY_THE_MARK = 1
@@ -51,7 +55,15 @@ def answer_call(stretch, call):
         return stretch.take_event(call[1], call[2])
     if call[0] == TICKS_CALL:
         return stretch.pass_ticks(call[1])
-    return stretch.pass_mark()
+    if call[0] == MARK_CALL:
+        return stretch.pass_mark()
+    if call[0] == KEY_CALL:
+        return stretch.show_key(call[1])
+    if call[0] == KEYS_CALL:
+        return stretch.show_keys()
+    if call[0] == SOON_CALL:
+        return stretch.show_soon(call[1], call[2])
+    return stretch.show_counts()
 
 
 def count_changes(changes):
@@ -72,6 +84,8 @@ class Stretch:
         self.trigger = trigger
         self.mark_passed = False
         self.piles = {}
+        self.taken = 0
+        self.not_taken = 0
 
     def begin(self, mode, empties, numbers):
         """Answer begin."""
@@ -94,7 +108,9 @@ class Stretch:
             self.piles[key] = Pile(key, self.trigger)
         pile = self.piles[key]
         if pile.trigger is None:
+            self.not_taken += 1
             return [0] + count_changes([])
+        self.taken += 1
         pile.take(value)
         changes = self.let_hear(pile, EVENT)
         if is_first and self.mark_passed:
@@ -116,6 +132,31 @@ class Stretch:
             return [-4]
         self.mark_passed = True
         return count_changes(self.let_all_hear(MARK))
+
+    def show_key(self, key):
+        """Answer key."""
+        if key not in self.piles:
+            return [-5]
+        return self.piles[key].show()
+
+    def show_keys(self):
+        """Answer keys."""
+        return [len(self.piles)] + sorted(self.piles)
+
+    def show_soon(self, key, sort):
+        """Answer soon; its sorts bear the numbers of an event and of a tick."""
+        if key not in self.piles:
+            return [-5]
+        if sort > TICK:
+            return [-1]
+        trigger = self.piles[key].trigger
+        if trigger is None:
+            return [-6]
+        return [look_ahead(trigger, sort)]
+
+    def show_counts(self):
+        """Answer counts."""
+        return [self.taken, self.not_taken, 1 if self.mark_passed else 0]
 
     def let_all_hear(self, heard):
         """Let every key hear, the lesser first; give back the changes."""

@@ -31,6 +31,7 @@ LEFT = 1
 MOST_NUMBERS = 60
 DEEPEST = 10
 MOST_COUNTED = 1000
+MOST_LOOKED_AHEAD = 2000
 
 
 def read_trigger(numbers):
@@ -187,3 +188,14 @@ def join_until(one, two):
     if two[FIRES] or one[LEFT] is None:
         return (fires, None)
     return (fires, (UNTIL, one[LEFT], two[LEFT]))
+
+
+def look_ahead(trigger, heard):
+    """Give back how often the same must be heard till the trigger fires; 0 if that is too far ahead."""
+    left = trigger
+    for number in range(1, MOST_LOOKED_AHEAD + 1):
+        outcome = hear(left, heard)
+        if outcome[FIRES]:
+            return number
+        left = outcome[LEFT]
+    return 0

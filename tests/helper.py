@@ -3,6 +3,9 @@
 from panetriggers.stretch import answers
 
 MARK = [3]
+KEYS = [5]
+COUNTS = [7]
+TOO_LARGE = 4294967295
 
 
 def begin(mode, empties, *trigger):
@@ -15,6 +18,14 @@ def event(key, value):
 
 def ticks(n):
     return [2, n]
+
+
+def key(k):
+    return [4, k]
+
+
+def soon(k, sort):
+    return [6, k, sort]
 
 
 def ask(*calls):

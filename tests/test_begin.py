@@ -2,9 +2,7 @@
 
 import unittest
 
-from tests.helper import MARK, NOT_TAKEN, ask, begin, changes, event, taken, ticks, told
-
-TOO_LARGE = 4294967295
+from tests.helper import MARK, NOT_TAKEN, TOO_LARGE, ask, begin, changes, event, taken, ticks, told
 
 
 def balanced(leaves, leaf):

@@ -8,9 +8,7 @@ import unittest
 
 import panetriggers
 from panetriggers.stretch import answers
-from tests.helper import MARK, ask, begin, changes, event, taken, taken_back, ticks, told
-
-TOO_LARGE = 4294967295
+from tests.helper import MARK, TOO_LARGE, ask, begin, changes, event, taken, taken_back, ticks, told
 
 
 class Event(unittest.TestCase):

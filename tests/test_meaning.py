@@ -8,7 +8,7 @@ import random
 import unittest
 
 from panetriggers.stretch import answers
-from tests.helper import MARK, begin, event, ticks
+from tests.helper import COUNTS, KEYS, MARK, TOO_LARGE, begin, event, key, soon, ticks
 
 
 def meaning(trigger, heard):
@@ -70,6 +70,7 @@ class Told:
         self.values = {}
         self.panes = {}
         self.passed = False
+        self.left_out = 0
 
     def over(self, key):
         return meaning(self.trigger, self.heard[key])[1] is not None
@@ -100,6 +101,7 @@ class Told:
         if first:
             self.heard[key], self.values[key], self.panes[key] = '', [], []
         if self.over(key):
+            self.left_out += 1
             return [0, 0]
         self.values[key].append(value)
         told = self.hear(key, 'e')
@@ -118,20 +120,45 @@ class Told:
         self.passed = True
         return flat([change for key in sorted(self.heard) for change in self.hear(key, 'm')])
 
+    def key(self, k):
+        if k not in self.heard:
+            return [-5]
+        values, shown = self.values[k], self.panes[k]
+        new = values[shown[-1][1]:] if shown else values
+        return [int(self.over(k)), len(new), sum(new), len(values), sum(values), len(shown)]
+
+    def keys(self):
+        return [len(self.heard)] + sorted(self.heard)
+
+    def soon(self, k, sort, far):
+        """far: how far to look, where a trigger is known not to fire later."""
+        if k not in self.heard:
+            return [-5]
+        if sort > 1:
+            return [-1]
+        if self.over(k):
+            return [-6]
+        heard = self.heard[k]
+        ahead = [m - len(heard) for m in meaning(self.trigger, heard + 'et'[sort] * far)[0] if m >= len(heard)]
+        return [ahead[0] + 1 if ahead else 0]
+
+    def counts(self):
+        return [sum(map(len, self.values.values())), self.left_out, int(self.passed)]
+
 
 def flat(told):
     return [len(told)] + [number for change in told for number in change]
 
 
-def drawn_trigger(draw, depth):
+def drawn_trigger(draw, depth, counts=(1, 2, 3, 4)):
     sort = draw.randrange(9) if depth > 1 else draw.randrange(4)
     if sort == 0:
-        return (0, draw.randint(1, 4))
+        return (0, draw.choice(counts))
     if sort == 1:
-        return (1, draw.randint(0, 4))
+        return (1, draw.choice((0,) + counts))
     if sort < 4:
         return (sort,)
-    return (sort,) + tuple(drawn_trigger(draw, depth - 1) for part in range(1 if sort == 4 else 2))
+    return (sort,) + tuple(drawn_trigger(draw, depth - 1, counts) for part in range(1 if sort == 4 else 2))
 
 
 def numbers_of(trigger):
@@ -141,27 +168,45 @@ def numbers_of(trigger):
     return numbers
 
 
+def drawn_asking(draw, stretch):
+    """One of the calls that only ask, and what it is to answer."""
+    pick = draw.randrange(8)
+    k = draw.choice((0, 0, 0, 4, 4, 9, 10, TOO_LARGE))
+    if pick < 2:
+        return key(k), stretch.key(k)
+    if pick == 2:
+        return KEYS, stretch.keys()
+    if pick == 3:
+        return COUNTS, stretch.counts()
+    sort = draw.choice((0, 0, 0, 1, 1, 1, 2, TOO_LARGE))
+    return soon(k, sort), stretch.soon(k, sort, 12)
+
+
 def drawn_line(draw):
     """A line of calls, and what it is to answer."""
     stretch = Told(0, 0, (4, (0, 2)))
     calls, expected = [], []
-    for number in range(draw.randint(1, 40)):
-        pick = draw.randrange(40)
-        if pick == 0 or (number == 0 and pick < 36):
+    for number in range(draw.randint(1, 60)):
+        pick = draw.randrange(60)
+        if pick == 0 or (number == 0 and pick < 50):
             mode, empties, trigger = draw.randrange(3), draw.randrange(2), drawn_trigger(draw, draw.randint(1, 5))
             if len(numbers_of(trigger)) > 60:
                 continue
             stretch, answer = Told(mode, empties, trigger), [0]
             call = begin(mode, empties, *numbers_of(trigger))
+        elif pick == 1:
+            call, answer = begin(0, 0, 0), [-3]
         elif pick < 22:
-            key = draw.choice((0, 0, 0, 4, 4, 9, 10)) if pick > 2 else draw.randrange(12)
+            k = draw.choice((0, 0, 0, 4, 4, 9, 10)) if pick > 3 else draw.randrange(12)
             value = draw.choice((0, 1, 7, 30, 1000000, 1000001)) if pick > 20 else draw.randrange(100)
-            call, answer = event(key, value), stretch.event(key, value)
+            call, answer = event(k, value), stretch.event(k, value)
         elif pick < 38:
             n = draw.choice((0, 1, 1, 1, 2, 3, 5, 201))
             call, answer = ticks(n), stretch.ticks(n)
-        else:
+        elif pick < 40:
             call, answer = MARK, stretch.mark()
+        else:
+            call, answer = drawn_asking(draw, stretch)
         calls += call
         expected += [len(answer)] + answer
     return calls, expected
@@ -173,7 +218,24 @@ class Meaning(unittest.TestCase):
         for number in range(3000):
             calls, expected = drawn_line(draw)
             if calls:
+                kept = list(calls)
                 self.assertEqual(answers(calls), expected, calls)
+                self.assertEqual(calls, kept)
+                self.assertEqual(answers(calls), expected, calls)
+
+    def test_far_ahead_as_the_meaning_says(self):
+        draw = random.Random(21)
+        for number in range(150):
+            trigger = drawn_trigger(draw, draw.randint(1, 4), (1, 2, 3, 40, 500, 998, 1000))
+            stretch, calls = Told(0, 0, trigger), begin(0, 0, *numbers_of(trigger))
+            expected = [1, 0]
+            for step in range(draw.randint(1, 4)):
+                n = draw.randrange(3)
+                for call, answer in ((event(4, 1), stretch.event(4, 1)), (ticks(n), stretch.ticks(n)),
+                                     (soon(4, step % 2), stretch.soon(4, step % 2, 2000))):
+                    calls += call
+                    expected += [len(answer)] + answer
+            self.assertEqual(answers(calls), expected, calls)
 
 
 if __name__ == "__main__":
